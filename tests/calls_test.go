@@ -1,0 +1,135 @@
+package tests
+
+import (
+	"math"
+	"slices"
+	"testing"
+
+	"loop.example/g01137/impl"
+)
+
+// arguments holds all that calls may take; each function takes its own part.
+type arguments struct {
+	space, other impl.Space
+	number       int
+	list, second []int
+	rows         [][]int
+	text         string
+}
+
+func (a arguments) guarded() arguments {
+	a.space, a.other = guardedSpace(a.space), guardedSpace(a.other)
+	a.list, a.second, a.rows = guarded(a.list), guarded(a.second), guardedRows(a.rows)
+	return a
+}
+
+func (a arguments) areKept(made arguments) bool {
+	return isKeptSpace(made.space, a.space) && isKeptSpace(made.other, a.other) &&
+		isKept(made.list, a.list) && isKept(made.second, a.second) && areKeptRows(made.rows, a.rows)
+}
+
+type function struct {
+	name string
+	call func(a arguments) (any, bool)
+}
+
+func result[T any](value T, ok bool) (any, bool) { return value, ok }
+
+func wantFailure(t *testing.T, f function, a arguments) {
+	t.Helper()
+	if value, ok := f.call(a); ok || !isZero(value) {
+		t.Errorf("%s of %+v does not fail with zero results: %v %v", f.name, a, value, ok)
+	}
+}
+
+func wantSuccess(t *testing.T, f function, a arguments) {
+	t.Helper()
+	if value, ok := f.call(a); !ok {
+		t.Errorf("%s of %+v fails: %v", f.name, a, value)
+	}
+}
+
+func invalidSpaces() []impl.Space {
+	long := freeOf(7)
+	long.Sets = append(long.Sets, 128)
+	twice := slices.Repeat([]int{0, 1}, 1000)
+	return []impl.Space{
+		{},
+		{Items: 1},
+		{Items: 0, Sets: []int{0}},
+		{Items: 0, Sets: []int{0, 1}},
+		{Items: -1, Sets: []int{0, 1}},
+		{Items: 8, Sets: beginnings([]int{0, 1, 2, 3, 4, 5, 6, 7})},
+		{Items: 64, Sets: []int{0, 1}},
+		{Items: math.MaxInt, Sets: []int{0, 1}},
+		{Items: math.MinInt, Sets: []int{0, 1}},
+		{Items: 2, Sets: []int{}},
+		{Items: 2, Sets: []int{1, 3}},                     // not that of no items
+		{Items: 2, Sets: []int{0, 1}},                     // not that of all
+		{Items: 2, Sets: []int{0, 1, 3, 4}},               // out of range
+		{Items: 2, Sets: []int{-1, 0, 1, 3}},              // negative
+		{Items: 2, Sets: []int{0, 1, 3, math.MaxInt}},     // far out of range
+		{Items: 2, Sets: []int{math.MinInt, 0, 1, 3}},     // far out of range
+		{Items: 2, Sets: []int{0, 1, 1, 3}},               // not increasing
+		{Items: 2, Sets: []int{0, 3, 1}},                  // not increasing
+		{Items: 2, Sets: []int{3, 2, 1, 0}},               // not increasing
+		{Items: 2, Sets: []int{1, 0, 3}},                  // not increasing
+		{Items: 2, Sets: []int{0, 3}},                     // not one at a time
+		{Items: 3, Sets: []int{0, 1, 2, 7}},               // neither
+		{Items: 3, Sets: []int{0, 1, 2, 5, 6, 7}},         // not closed: 1 and 2
+		{Items: 3, Sets: []int{0, 1, 3, 4, 7}},            // not closed: 1 and 4
+		{Items: 3, Sets: []int{0, 1, 6, 7}},               // 6 not one at a time
+		{Items: 4, Sets: []int{0, 1, 3, 7, 8, 9, 11, 12}}, // not that of all
+		{Items: 4, Sets: []int{0, 1, 3, 7, 12, 13, 15}},   // 12 not one at a time
+		{Items: 4, Sets: []int{0, 1, 2, 3, 4, 5, 6, 15}},  // neither
+		{Items: 1, Sets: twice},                           // too long
+		long,
+	}
+}
+
+func (c *chance) anyNumber() int {
+	numbers := []int{0, 1, 2, 3, 4, 5, 6, 7, 8, 15, 31, 63, 64, 127, 128, 129, -1, -2, -64, -128, math.MaxInt, math.MinInt, 1 << 62}
+	return numbers[c.below(len(numbers))]
+}
+
+func (c *chance) anyList() []int {
+	if c.below(3) == 0 {
+		return c.order(c.below(9))
+	}
+	var list []int
+	for range c.below(10) {
+		list = append(list, c.anyNumber())
+	}
+	if c.below(2) == 0 {
+		slices.Sort(list)
+	}
+	return list
+}
+
+func (c *chance) anyRows() [][]int {
+	var rows [][]int
+	for range c.below(5) {
+		if c.below(3) == 0 {
+			rows = append(rows, c.anyList())
+		} else {
+			rows = append(rows, []int{c.below(8) - 1, c.below(8)})
+		}
+	}
+	return rows
+}
+
+func (c *chance) anySpace() impl.Space {
+	if c.below(3) == 0 {
+		return impl.Space{Items: c.anyNumber(), Sets: c.anyList()}
+	}
+	return madeSpace(c, 1+c.below(7), 1+c.below(3))
+}
+
+func (c *chance) anyText() string {
+	text := []byte(textOf(c.anySpace()))
+	for range c.below(3) {
+		place := c.below(len(text))
+		text = slices.Replace(text, place, place+c.below(2), " 0123456789:,-+"[c.below(15)])
+	}
+	return string(text)
+}
