@@ -11,7 +11,7 @@ import (
 // arguments holds all that calls may take; each function takes its own part.
 type arguments struct {
 	space, other impl.Space
-	number       int
+	number, item int
 	list, second []int
 	rows         [][]int
 	text         string
@@ -46,6 +46,135 @@ func wantSuccess(t *testing.T, f function, a arguments) {
 	t.Helper()
 	if value, ok := f.call(a); !ok {
 		t.Errorf("%s of %+v fails: %v", f.name, a, value)
+	}
+}
+
+// demanding is a function, with what the document requires of its arguments, the space apart.
+type demanding struct {
+	function
+	fine func(a arguments) bool
+}
+
+func always(arguments) bool     { return true }
+func isOwnSet(a arguments) bool { return slices.Contains(a.space.Sets, a.number) }
+
+// chapter holds the functions of a chapter: those that take a space, and those that take none.
+type chapter struct {
+	inSpaces, withoutSpace []demanding
+}
+
+func (c chapter) all() []demanding { return slices.Concat(c.inSpaces, c.withoutSpace) }
+
+func (c chapter) named(name string) function {
+	all := c.all()
+	return all[slices.IndexFunc(all, func(f demanding) bool { return f.name == name })].function
+}
+
+// wantCalls calls all functions: each one succeeds just if its arguments are fine, and keeps them.
+func (c chapter) wantCalls(t *testing.T, a arguments) {
+	t.Helper()
+	is := isDefined(a.space)
+	for i, f := range c.all() {
+		fine := (is || i >= len(c.inSpaces)) && f.fine(a)
+		if fine {
+			wantSuccess(t, f.function, a)
+		} else {
+			wantFailure(t, f.function, a)
+		}
+		made := a.guarded()
+		if _, ok := f.call(made); ok != fine || !a.areKept(made) {
+			t.Errorf("%s of %+v: %v, behind it %+v", f.name, a, ok, made)
+		}
+	}
+}
+
+// wantSuccesses wants each function to succeed in one of the calls: the tests of arguments and results are worth
+// nothing for a function that just fails.
+func (c chapter) wantSuccesses(t *testing.T, calls []arguments) {
+	t.Helper()
+	for _, f := range c.all() {
+		if !slices.ContainsFunc(calls, func(a arguments) bool { _, ok := f.call(a); return ok }) {
+			t.Errorf("%s always fails", f.name)
+		}
+	}
+}
+
+// wantNewMemory wants results that share no memory with arguments, or with each other.
+func (c chapter) wantNewMemory(t *testing.T, calls []arguments) {
+	t.Helper()
+	for _, a := range calls {
+		for _, f := range c.all() {
+			made := a.guarded()
+			value, ok := f.call(made)
+			if lists := memoryOf(value); ok && lists != nil {
+				before := copyOf(lists)
+				overwriteArguments(made)
+				if !sameWords(lists, before) {
+					t.Errorf("%s of %+v keeps its arguments", f.name, a)
+				}
+				made = a.guarded()
+				value, _ = f.call(made)
+				wantOwnLists(t, f.function, memoryOf(value))
+				if !a.areKept(made) {
+					t.Errorf("%s of %+v hands out its arguments", f.name, a)
+				}
+				if again, ok := f.call(made); !ok || !sameWords(memoryOf(again), before) {
+					t.Errorf("%s of %+v: %v, then %v", f.name, a, before, again)
+				}
+			}
+		}
+	}
+}
+
+// memoryOf returns the lists of a result.
+func memoryOf(value any) [][]int {
+	switch v := value.(type) {
+	case []int:
+		return [][]int{v}
+	case [][]int:
+		return v
+	case impl.Space:
+		return [][]int{v.Sets}
+	}
+	return nil
+}
+
+func copyOf(lists [][]int) [][]int {
+	var copied [][]int
+	for _, list := range lists {
+		copied = append(copied, slices.Clone(list))
+	}
+	return copied
+}
+
+func overwriteArguments(a arguments) {
+	for _, list := range slices.Concat([][]int{a.space.Sets, a.list, a.second}, a.rows) {
+		overwrite(list)
+	}
+}
+
+// wantOwnLists fills each list of a result, and what is behind it, with numbers of its own, from the first list to the
+// last one and back: no other list has them then.
+func wantOwnLists(t *testing.T, f function, lists [][]int) {
+	t.Helper()
+	fill := func(i int) {
+		whole := lists[i][:cap(lists[i])]
+		for place := range whole {
+			whole[place] = i
+		}
+	}
+	for _, backwards := range []bool{false, true} {
+		for i := range lists {
+			if backwards {
+				i = len(lists) - 1 - i
+			}
+			fill(i)
+		}
+		for i, list := range lists {
+			if slices.ContainsFunc(list, func(number int) bool { return number != i }) {
+				t.Errorf("%s: the list %d shares memory with another one", f.name, i)
+			}
+		}
 	}
 }
 

@@ -8,14 +8,6 @@ import (
 	"loop.example/g01137/impl"
 )
 
-// wordFunction is a function of chapter 2, with what the document requires of its arguments, the space apart.
-type wordFunction struct {
-	function
-	fine func(a arguments) bool
-}
-
-func always(arguments) bool       { return true }
-func isOwnSet(a arguments) bool   { return slices.Contains(a.space.Sets, a.number) }
 func isWord(a arguments) bool     { return isWordOf(a.space, a.list) }
 func isFullWord(a arguments) bool { return isFullWordOf(a.space, a.list) }
 
@@ -30,8 +22,7 @@ func canSwap(a arguments) bool {
 	return isWordOf(a.space, turned)
 }
 
-// inSpaces are the functions that take a space.
-var inSpaces = []wordFunction{
+var chapter2 = chapter{inSpaces: []demanding{
 	{function{"IsWord", func(a arguments) (any, bool) { return result(impl.IsWord(a.space, a.list)) }},
 		func(a arguments) bool { return len(a.list) <= 7 }},
 	{function{"SetOfWord", func(a arguments) (any, bool) { return result(impl.SetOfWord(a.space, a.list)) }}, isWord},
@@ -51,13 +42,10 @@ var inSpaces = []wordFunction{
 		func(a arguments) bool { return isFullWord(a) && isFullWordOf(a.space, a.second) }},
 	{function{"AreWordsOf", func(a arguments) (any, bool) { return result(impl.AreWordsOf(a.space, a.rows)) }},
 		func(a arguments) bool { return len(a.rows) <= 200 }},
-}
-
-// withoutSpace are the functions that take none.
-var withoutSpace = []wordFunction{
+}, withoutSpace: []demanding{
 	{function{"SpaceOfWords", func(a arguments) (any, bool) { return result(impl.SpaceOfWords(a.rows)) }}, areOrders},
 	{function{"WordText", func(a arguments) (any, bool) { return result(impl.WordText(a.list)) }}, areDigits},
-}
+}}
 
 func areOrders(a arguments) bool {
 	if len(a.rows) < 1 || len(a.rows) > 200 || len(a.rows[0]) < 1 || len(a.rows[0]) > 7 {
@@ -72,37 +60,13 @@ func areDigits(a arguments) bool {
 	return len(a.list) <= 20 && !slices.ContainsFunc(a.list, func(number int) bool { return number < 0 || number > 9 })
 }
 
-// wantWordCalls calls all functions of chapter 2: each one succeeds just if its arguments are fine, and keeps them.
-func wantWordCalls(t *testing.T, a arguments) {
-	t.Helper()
-	is := isDefined(a.space)
-	for _, f := range slices.Concat(inSpaces, withoutSpace) {
-		takes := slices.ContainsFunc(inSpaces, func(g wordFunction) bool { return g.name == f.name })
-		fine := (is || !takes) && f.fine(a)
-		if fine {
-			wantSuccess(t, f.function, a)
-		} else {
-			wantFailure(t, f.function, a)
-		}
-		made := a.guarded()
-		if _, ok := f.call(made); ok != fine || !a.areKept(made) {
-			t.Errorf("%s of %+v: %v, behind it %+v", f.name, a, ok, made)
-		}
-	}
-}
-
-func wordFunctionOf(name string) function {
-	all := slices.Concat(inSpaces, withoutSpace)
-	return all[slices.IndexFunc(all, func(f wordFunction) bool { return f.name == name })].function
-}
-
 func TestWordsInInvalidSpacesFail(t *testing.T) {
 	for _, s := range invalidSpaces() {
 		for set := -1; set <= 8; set++ {
-			wantWordCalls(t, arguments{space: s, number: set})
-			wantWordCalls(t, arguments{space: s, number: set, list: []int{0}, second: []int{0}, rows: [][]int{{0}}})
-			wantWordCalls(t, arguments{space: s, number: set, list: []int{0, 1}, second: []int{1, 0}, rows: [][]int{{0, 1}, {1, 0}}})
-			wantWordCalls(t, arguments{space: s, number: set, list: []int{0, 1, 2}, second: []int{0, 1, 2}, rows: [][]int{nil}})
+			chapter2.wantCalls(t, arguments{space: s, number: set})
+			chapter2.wantCalls(t, arguments{space: s, number: set, list: []int{0}, second: []int{0}, rows: [][]int{{0}}})
+			chapter2.wantCalls(t, arguments{space: s, number: set, list: []int{0, 1}, second: []int{1, 0}, rows: [][]int{{0, 1}, {1, 0}}})
+			chapter2.wantCalls(t, arguments{space: s, number: set, list: []int{0, 1, 2}, second: []int{0, 1, 2}, rows: [][]int{nil}})
 		}
 	}
 }
@@ -117,8 +81,8 @@ func TestWordsToInvalidSetsFail(t *testing.T) {
 			}
 		}
 		for _, number := range numbers {
-			wantFailure(t, wordFunctionOf("CountFrom"), arguments{space: s, number: number})
-			wantFailure(t, wordFunctionOf("SortWord"), arguments{space: s, number: number})
+			wantFailure(t, chapter2.named("CountFrom"), arguments{space: s, number: number})
+			wantFailure(t, chapter2.named("SortWord"), arguments{space: s, number: number})
 		}
 	}
 }
@@ -142,7 +106,7 @@ func TestInvalidWordsFail(t *testing.T) {
 		word := fullWordsOf(s)[0]
 		for _, invalid := range invalidWords(s) {
 			for _, name := range []string{"SetOfWord", "RankWord", "FinishWord", "SwapWord", "ExchangeWord", "SwapWay"} {
-				f := wordFunctionOf(name)
+				f := chapter2.named(name)
 				wantFailure(t, f, arguments{space: s, list: invalid, second: word})
 				wantFailure(t, f, arguments{space: s, list: invalid, second: invalid})
 				if name == "ExchangeWord" || name == "SwapWay" {
@@ -157,11 +121,11 @@ func TestInvalidRanksAndPlacesFail(t *testing.T) {
 	for _, s := range samples() {
 		words := fullWordsOf(s)
 		for _, number := range []int{-1, -2, len(words), 5040, 1 << 62, math.MaxInt, math.MaxInt - 1, math.MinInt, math.MinInt + 1} {
-			wantFailure(t, wordFunctionOf("WordWith"), arguments{space: s, number: number})
+			wantFailure(t, chapter2.named("WordWith"), arguments{space: s, number: number})
 		}
 		for _, number := range []int{-1, -2, s.Items - 1, s.Items, 6, 7, math.MaxInt, math.MaxInt - 1, math.MinInt} {
-			wantFailure(t, wordFunctionOf("SwapWord"), arguments{space: s, number: number, list: words[0]})
-			wantFailure(t, wordFunctionOf("SwapWord"), arguments{space: s, number: number})
+			wantFailure(t, chapter2.named("SwapWord"), arguments{space: s, number: number, list: words[0]})
+			wantFailure(t, chapter2.named("SwapWord"), arguments{space: s, number: number})
 		}
 	}
 }
@@ -171,11 +135,11 @@ func TestInvalidListsOfListsFail(t *testing.T) {
 		{{0, 0}}, {{1}}, {{1, 2}}, {{0, 2}}, {{-1, 0}}, {{0, 1, 2}, {2, 1, 3}}, {{0, 1, 2}, {0, 1, 2, 3}}, {{math.MaxInt}}, {{math.MinInt, 0}},
 		{{0, 64}}, {{0, 1, 2, 3, 4, 5, 6, 7}}, {make([]int, 100000)}, {{0, 1, 2, 3, 4, 5, 6}, {0, 1, 2, 3, 4, 5, 6, 7}},
 		slices.Repeat([][]int{{0}}, 201), slices.Repeat([][]int{{0}}, 100000), slices.Repeat([][]int{nil}, 200)} {
-		wantFailure(t, wordFunctionOf("SpaceOfWords"), arguments{rows: rows})
+		wantFailure(t, chapter2.named("SpaceOfWords"), arguments{rows: rows})
 	}
 	for _, s := range samples() {
-		wantFailure(t, wordFunctionOf("AreWordsOf"), arguments{space: s, rows: slices.Repeat(fullWordsOf(s)[:1], 201)})
-		wantFailure(t, wordFunctionOf("AreWordsOf"), arguments{space: s, rows: make([][]int, 201)})
+		wantFailure(t, chapter2.named("AreWordsOf"), arguments{space: s, rows: slices.Repeat(fullWordsOf(s)[:1], 201)})
+		wantFailure(t, chapter2.named("AreWordsOf"), arguments{space: s, rows: make([][]int, 201)})
 	}
 }
 
@@ -200,107 +164,29 @@ func validWordCalls() []arguments {
 
 func TestWordArgumentsAreKept(t *testing.T) {
 	for _, a := range validWordCalls() {
-		wantWordCalls(t, a)
+		chapter2.wantCalls(t, a)
 	}
 }
 
-// The tests of arguments and results are worth nothing for a function that just fails.
 func TestValidWordCallsSucceed(t *testing.T) {
-	for _, f := range slices.Concat(inSpaces, withoutSpace) {
-		if !slices.ContainsFunc(validWordCalls(), func(a arguments) bool { _, ok := f.call(a); return ok }) {
-			t.Errorf("%s always fails", f.name)
-		}
-	}
-}
-
-// memoryOf returns the lists of a result.
-func memoryOf(value any) [][]int {
-	switch v := value.(type) {
-	case []int:
-		return [][]int{v}
-	case [][]int:
-		return v
-	case impl.Space:
-		return [][]int{v.Sets}
-	}
-	return nil
-}
-
-func copyOf(lists [][]int) [][]int {
-	var copied [][]int
-	for _, list := range lists {
-		copied = append(copied, slices.Clone(list))
-	}
-	return copied
-}
-
-func overwriteArguments(a arguments) {
-	for _, list := range slices.Concat([][]int{a.space.Sets, a.list, a.second}, a.rows) {
-		overwrite(list)
-	}
-}
-
-// wantOwnLists fills each list of a result, and what is behind it, with numbers of its own, from the first list to the
-// last one and back: no other list has them then.
-func wantOwnLists(t *testing.T, f function, lists [][]int) {
-	t.Helper()
-	fill := func(i int) {
-		whole := lists[i][:cap(lists[i])]
-		for place := range whole {
-			whole[place] = i
-		}
-	}
-	for _, backwards := range []bool{false, true} {
-		for i := range lists {
-			if backwards {
-				i = len(lists) - 1 - i
-			}
-			fill(i)
-		}
-		for i, list := range lists {
-			if slices.ContainsFunc(list, func(number int) bool { return number != i }) {
-				t.Errorf("%s: the list %d shares memory with another one", f.name, i)
-			}
-		}
-	}
+	chapter2.wantSuccesses(t, validWordCalls())
 }
 
 func TestWordResultsAreNewMemory(t *testing.T) {
-	for _, a := range validWordCalls() {
-		for _, f := range slices.Concat(inSpaces, withoutSpace) {
-			made := a.guarded()
-			value, ok := f.call(made)
-			if lists := memoryOf(value); ok && lists != nil {
-				before := copyOf(lists)
-				overwriteArguments(made)
-				if !sameWords(lists, before) {
-					t.Errorf("%s of %+v keeps its arguments", f.name, a)
-				}
-				made = a.guarded()
-				value, _ = f.call(made)
-				wantOwnLists(t, f.function, memoryOf(value))
-				if !a.areKept(made) {
-					t.Errorf("%s of %+v hands out its arguments", f.name, a)
-				}
-				if again, ok := f.call(made); !ok || !sameWords(memoryOf(again), before) {
-					t.Errorf("%s of %+v: %v, then %v", f.name, a, before, again)
-				}
-			}
-		}
-	}
+	chapter2.wantNewMemory(t, validWordCalls())
 }
 
 // What is behind the length of a list does not belong to it.
 func TestSpareCapacityIsNoWord(t *testing.T) {
 	s, order := freeOf(3), []int{0, 1, 2}
 	rows := [][]int{{0, 1, 2}, {2, 1, 0}}
-	wantFailure(t, wordFunctionOf("CountWords"), arguments{space: impl.Space{Items: 3, Sets: s.Sets[:7]}})
-	wantFailure(t, wordFunctionOf("RankWord"), arguments{space: s, list: order[:2]})
-	wantFailure(t, wordFunctionOf("SwapWay"), arguments{space: s, list: order[:2], second: order})
-	wantFailure(t, wordFunctionOf("SwapWay"), arguments{space: s, list: order, second: order[:2]})
-	wantFailure(t, wordFunctionOf("SwapWord"), arguments{space: s, list: order[:2], number: 1})
-	wantFailure(t, wordFunctionOf("SpaceOfWords"), arguments{rows: rows[:0]})
-	wantFailure(t, wordFunctionOf("SpaceOfWords"), arguments{rows: [][]int{order, order[:2]}})
+	wantFailure(t, chapter2.named("CountWords"), arguments{space: impl.Space{Items: 3, Sets: s.Sets[:7]}})
+	wantFailure(t, chapter2.named("RankWord"), arguments{space: s, list: order[:2]})
+	wantFailure(t, chapter2.named("SwapWay"), arguments{space: s, list: order[:2], second: order})
+	wantFailure(t, chapter2.named("SwapWay"), arguments{space: s, list: order, second: order[:2]})
+	wantFailure(t, chapter2.named("SwapWord"), arguments{space: s, list: order[:2], number: 1})
+	wantFailure(t, chapter2.named("SpaceOfWords"), arguments{rows: rows[:0]})
+	wantFailure(t, chapter2.named("SpaceOfWords"), arguments{rows: [][]int{order, order[:2]}})
 	set, ok := impl.SetOfWord(s, order[:1])
 	wantCount(t, "SetOfWord", set, ok, 1)
 	word, ok := impl.ExchangeWord(s, order[:1], []int{2})
@@ -363,7 +249,7 @@ func TestAnyArgumentsOfWords(t *testing.T) {
 				a.rows = append(a.rows, c.order(1+c.below(3)))
 			}
 		}
-		wantWordCalls(t, a)
+		chapter2.wantCalls(t, a)
 		if is, _ := impl.IsWord(a.space, a.list); is != (isDefined(a.space) && isWord(a)) {
 			t.Errorf("IsWord %s %v: %v", textOf(a.space), a.list, is)
 		}
