@@ -15,17 +15,20 @@ type arguments struct {
 	list, second []int
 	rows         [][]int
 	text         string
+	tasks        []impl.Task
 }
 
 func (a arguments) guarded() arguments {
 	a.space, a.other = guardedSpace(a.space), guardedSpace(a.other)
 	a.list, a.second, a.rows = guarded(a.list), guarded(a.second), guardedRows(a.rows)
+	a.tasks = guardedTasks(a.tasks)
 	return a
 }
 
 func (a arguments) areKept(made arguments) bool {
 	return isKeptSpace(made.space, a.space) && isKeptSpace(made.other, a.other) &&
-		isKept(made.list, a.list) && isKept(made.second, a.second) && areKeptRows(made.rows, a.rows)
+		isKept(made.list, a.list) && isKept(made.second, a.second) && areKeptRows(made.rows, a.rows) &&
+		slices.Equal(made.tasks[:cap(made.tasks)], guardedTasks(a.tasks)[:len(a.tasks)+2])
 }
 
 type function struct {
@@ -151,6 +154,7 @@ func overwriteArguments(a arguments) {
 	for _, list := range slices.Concat([][]int{a.space.Sets, a.list, a.second}, a.rows) {
 		overwrite(list)
 	}
+	clear(a.tasks[:cap(a.tasks)])
 }
 
 // wantOwnLists fills each list of a result, and what is behind it, with numbers of its own, from the first list to the

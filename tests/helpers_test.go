@@ -35,6 +35,12 @@ func guardedRows(rows [][]int) [][]int {
 	return room[:len(rows)]
 }
 
+func guardedTasks(tasks []impl.Task) []impl.Task {
+	room := slices.Repeat([]impl.Task{{Time: spare, Rate: spare, Base: spare}}, len(tasks)+2)
+	copy(room, tasks)
+	return room[:len(tasks)]
+}
+
 func guardedSpace(s impl.Space) impl.Space {
 	return impl.Space{Items: s.Items, Sets: guarded(s.Sets)}
 }

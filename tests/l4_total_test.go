@@ -27,15 +27,17 @@ func isWay(a arguments) bool {
 
 func isSetOfPoints(a arguments) bool { return arePoints(a) && isBelow(a.number, 1<<len(a.rows)) }
 
+// arePairsOf reports whether rows are at most 40 pairs of different ones of n items.
+func arePairsOf(rows [][]int, n int) bool {
+	return len(rows) <= 40 && !slices.ContainsFunc(rows, func(row []int) bool {
+		return len(row) != 2 || !isBelow(row[0], n) || !isBelow(row[1], n) || row[0] == row[1]
+	})
+}
+
 // areEnds reports whether rows are pairs by which no item is less than itself.
 func areEnds(a arguments) bool {
-	if a.number < 1 || a.number > 7 || len(a.rows) > 40 {
+	if a.number < 1 || a.number > 7 || !arePairsOf(a.rows, a.number) {
 		return false
-	}
-	for _, row := range a.rows {
-		if len(row) != 2 || !isBelow(row[0], a.number) || !isBelow(row[1], a.number) || row[0] == row[1] {
-			return false
-		}
 	}
 	_, ok := endsSpaceOf(a.number, a.rows)
 	return ok
@@ -169,6 +171,14 @@ func TestInvalidPointsFail(t *testing.T) {
 	}
 }
 
+// invalidPairs returns lists that are no pairs of three items, or too many of them.
+func invalidPairs() [][][]int {
+	return [][][]int{{nil}, {{}}, {{0}}, {{0, 1, 2}}, {{0, 1}, {1}}, {{0, 1}, nil}, {make([]int, 100000)}, // no pairs
+		{{0, 3}}, {{3, 0}}, {{-1, 0}}, {{0, -1}}, {{0, 64}}, {{0, math.MaxInt}}, {{math.MinInt, 0}}, {{0, 1}, {1, 7}}, // out of range
+		{{0, 0}}, {{2, 2}}, {{0, 1}, {1, 1}}, {{-1, -1}}, {{3, 3}}, // the same item twice
+		slices.Repeat([][]int{{0, 1}}, 41), slices.Repeat([][]int{{0, 1}}, 100000), slices.Repeat([][]int{nil}, 40)}
+}
+
 func TestInvalidEndsFail(t *testing.T) {
 	f := chapter4.named("EndsSpace")
 	for _, n := range append(farNumbers(), 0, 8, 9, 63, 64, 65) {
@@ -176,11 +186,8 @@ func TestInvalidEndsFail(t *testing.T) {
 			wantFailure(t, f, arguments{number: n, rows: pairs})
 		}
 	}
-	for _, pairs := range [][][]int{{nil}, {{}}, {{0}}, {{0, 1, 2}}, {{0, 1}, {1}}, {{0, 1}, nil}, {make([]int, 100000)}, // no pairs
-		{{0, 3}}, {{3, 0}}, {{-1, 0}}, {{0, -1}}, {{0, 64}}, {{0, math.MaxInt}}, {{math.MinInt, 0}}, {{0, 1}, {1, 7}}, // out of range
-		{{0, 0}}, {{2, 2}}, {{0, 1}, {1, 1}}, {{-1, -1}}, {{3, 3}}, // the same item twice
-		{{0, 1}, {1, 0}}, {{0, 1}, {1, 2}, {2, 0}}, {{2, 1}, {0, 2}, {1, 0}}, {{0, 1}, {2, 1}, {1, 2}}, // pairs that go round
-		slices.Repeat([][]int{{0, 1}}, 41), slices.Repeat([][]int{{0, 1}}, 100000), slices.Repeat([][]int{nil}, 40)} {
+	goingRound := [][][]int{{{0, 1}, {1, 0}}, {{0, 1}, {1, 2}, {2, 0}}, {{2, 1}, {0, 2}, {1, 0}}, {{0, 1}, {2, 1}, {1, 2}}}
+	for _, pairs := range append(invalidPairs(), goingRound...) {
 		wantFailure(t, f, arguments{number: 3, rows: pairs})
 	}
 	for n := 2; n <= 7; n++ {
