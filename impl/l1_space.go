@@ -107,6 +107,42 @@ func familyAndOwnSet(s Space, set int) (family, itemSet, bool) {
 	return f, own, true
 }
 
+// familiesOf returns the families of two spaces.
+func familiesOf(a Space, b Space) (family, family, bool) {
+	f, okA := familyOf(a)
+	g, okB := familyOf(b)
+	if !okA || !okB {
+		return family{}, family{}, false
+	}
+	return f, g, true
+}
+
+// familyWhere returns the family of those sets of n items that keep accepts.
+func familyWhere(n int, keep func(itemSet) bool) family {
+	f := family{items: n}
+	for set := range f.full() + 1 {
+		f.has[set] = keep(set)
+	}
+	return f
+}
+
+// reachedBy returns the family of all sets that are reached from that of no items by one item at a time, one of those
+// that next tells for the set.
+func reachedBy(n int, next func(itemSet) itemSet) family {
+	f := family{items: n}
+	f.has[0] = true
+	// A set with one item more has a greater number, so that each set is there before it is looked at.
+	for set := range f.full() + 1 {
+		if !f.has[set] {
+			continue
+		}
+		for _, item := range next(set).items() {
+			f.has[set.with(item)] = true
+		}
+	}
+	return f
+}
+
 // unionsOf returns the family of all unions of sets, that of none of them counted.
 func unionsOf(n int, sets []int) family {
 	f := family{items: n}
@@ -369,10 +405,7 @@ func OrderSpace(n int, pairs [][]int) (Space, bool) {
 	if !isItemCount(n) || !arePairs(pairs, n) {
 		return Space{}, false
 	}
-	f := family{items: n}
-	for set := range f.full() + 1 {
-		f.has[set] = keepsPairs(set, pairs)
-	}
+	f := familyWhere(n, func(set itemSet) bool { return keepsPairs(set, pairs) })
 	if !f.isSpace() {
 		return Space{}, false
 	}
@@ -397,9 +430,8 @@ func LineSpace(n int) (Space, bool) {
 
 // UnionSpaces returns the least space that has the Sets of both, which have as many items.
 func UnionSpaces(a Space, b Space) (Space, bool) {
-	f, okA := familyOf(a)
-	g, okB := familyOf(b)
-	if !okA || !okB || f.items != g.items {
+	f, g, ok := familiesOf(a, b)
+	if !ok || f.items != g.items {
 		return Space{}, false
 	}
 	return unionsOf(f.items, append(f.sets(), g.sets()...)).space(), true

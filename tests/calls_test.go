@@ -151,7 +151,7 @@ func copyOf(lists [][]int) [][]int {
 }
 
 func overwriteArguments(a arguments) {
-	for _, list := range slices.Concat([][]int{a.space.Sets, a.list, a.second}, a.rows) {
+	for _, list := range slices.Concat([][]int{a.space.Sets, a.other.Sets, a.list, a.second}, a.rows) {
 		overwrite(list)
 	}
 	clear(a.tasks[:cap(a.tasks)])
