@@ -12,6 +12,7 @@ import (
 type arguments struct {
 	space, other impl.Space
 	number, item int
+	yes, no      int
 	list, second []int
 	rows         [][]int
 	text         string
