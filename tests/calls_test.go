@@ -113,7 +113,7 @@ func (c chapter) wantNewMemory(t *testing.T, calls []arguments) {
 			if lists := memoryOf(value); ok && lists != nil {
 				before := copyOf(lists)
 				overwriteArguments(made)
-				if !sameWords(lists, before) {
+				if !sameWords(memoryOf(value), before) {
 					t.Errorf("%s of %+v keeps its arguments", f.name, a)
 				}
 				made = a.guarded()
@@ -139,6 +139,10 @@ func memoryOf(value any) [][]int {
 		return v
 	case impl.Space:
 		return [][]int{v.Sets}
+	case impl.Chips:
+		return append(slices.Clone(v.Lines), v.At)
+	case spaceOfMoves:
+		return [][]int{v.space.Sets, v.places}
 	}
 	return nil
 }
@@ -155,6 +159,7 @@ func overwriteArguments(a arguments) {
 	for _, list := range slices.Concat([][]int{a.space.Sets, a.other.Sets, a.list, a.second}, a.rows) {
 		overwrite(list)
 	}
+	clear(a.rows[:cap(a.rows)])
 	clear(a.tasks[:cap(a.tasks)])
 }
 

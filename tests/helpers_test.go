@@ -85,8 +85,13 @@ func isZero(value any) bool {
 	if v.Kind() == reflect.Slice {
 		return v.Len() == 0
 	}
-	if s, ok := value.(impl.Space); ok {
-		return s.Items == 0 && len(s.Sets) == 0
+	switch v := value.(type) {
+	case impl.Space:
+		return v.Items == 0 && len(v.Sets) == 0
+	case impl.Chips:
+		return len(v.Lines) == 0 && len(v.At) == 0
+	case spaceOfMoves:
+		return isZero(v.space) && len(v.places) == 0
 	}
 	return v.IsZero()
 }
