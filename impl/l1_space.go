@@ -212,6 +212,18 @@ func (f family) trace(kept itemSet) family {
 	})
 }
 
+// renamed returns the family with the item names[i] for each i.
+func (f family) renamed(names []int) family {
+	return f.image(f.items, func(set itemSet) itemSet {
+		return sumOf(f.items, func(item int) itemSet {
+			if !set.has(item) {
+				return 0
+			}
+			return single(names[item])
+		})
+	})
+}
+
 // fringe returns the items with which a step leads from a set to another one of the family.
 func (f family) fringe(set itemSet, step func(itemSet, int) itemSet) itemSet {
 	return itemsWhere(f.items, func(item int) bool {
@@ -464,15 +476,7 @@ func RenameItems(s Space, names []int) (Space, bool) {
 	if !ok || !isOrder(names, f.items) {
 		return Space{}, false
 	}
-	renamed := f.image(f.items, func(set itemSet) itemSet {
-		return sumOf(f.items, func(item int) itemSet {
-			if !set.has(item) {
-				return 0
-			}
-			return single(names[item])
-		})
-	})
-	return renamed.space(), true
+	return f.renamed(names).space(), true
 }
 
 // SpaceText returns the Items, a : and all Sets in decimal with , between them.

@@ -139,6 +139,12 @@ func memoryOf(value any) [][]int {
 		return v
 	case impl.Space:
 		return [][]int{v.Sets}
+	case []impl.Space:
+		var lists [][]int
+		for _, space := range v {
+			lists = append(lists, space.Sets)
+		}
+		return lists
 	case impl.Chips:
 		return append(slices.Clone(v.Lines), v.At)
 	case spaceOfMoves:
