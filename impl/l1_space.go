@@ -316,6 +316,15 @@ func plainNumber(text string) (int, bool) {
 	return number, true
 }
 
+// withCommas returns numbers in decimal with , between them.
+func withCommas(numbers []int) string {
+	var texts []string
+	for _, number := range numbers {
+		texts = append(texts, strconv.Itoa(number))
+	}
+	return strings.Join(texts, ",")
+}
+
 // IsSpace reports whether s is a space.
 func IsSpace(s Space) bool {
 	_, ok := familyOf(s)
@@ -485,11 +494,7 @@ func SpaceText(s Space) (string, bool) {
 	if !ok {
 		return "", false
 	}
-	var sets []string
-	for _, set := range f.sets() {
-		sets = append(sets, strconv.Itoa(set))
-	}
-	return strconv.Itoa(f.items) + ":" + strings.Join(sets, ","), true
+	return strconv.Itoa(f.items) + ":" + withCommas(f.sets()), true
 }
 
 // ParseSpace returns the space with a SpaceText. It fails if there is none.

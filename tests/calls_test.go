@@ -149,6 +149,10 @@ func memoryOf(value any) [][]int {
 		return append(slices.Clone(v.Lines), v.At)
 	case spaceOfMoves:
 		return [][]int{v.space.Sets, v.places}
+	case impl.Desk:
+		return [][]int{v.Space.Sets}
+	case outcome:
+		return [][]int{v.desk.Space.Sets}
 	}
 	return nil
 }

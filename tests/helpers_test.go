@@ -92,6 +92,10 @@ func isZero(value any) bool {
 		return len(v.Lines) == 0 && len(v.At) == 0
 	case spaceOfMoves:
 		return isZero(v.space) && len(v.places) == 0
+	case impl.Desk:
+		return isZero(v.Space) && v.Known == 0
+	case outcome:
+		return isZero(v.desk) && v.reply == ""
 	}
 	return v.IsZero()
 }
